@@ -1,0 +1,1 @@
+"""Whole numbers of two parts: added, multiplied and divided with a rest."""
