@@ -4,14 +4,11 @@ import math
 import unittest
 from fractions import Fraction
 
-from samples import KINDS, NOUGHT, ONE, box, goes_into, great_number, norm, product, total
+from samples import KINDS, NO_UNITS, NOUGHT, ONE, box, goes_into, great_number, norm, product, total
 from twofold.dividing import alike, common, divides, split
 from twofold.errors import ByNought, FoldError
 
 GREAT = [great_number(seed, figures) for seed in range(4) for figures in (40, 600, 900)]
-
-# One number of each kind, neither nought nor going into one.
-NO_UNITS = {-2: (1, 1), -1: (2, 1), 2: (3, 1), 3: (1, 1)}
 
 # Numbers that go into one.
 UNITS = {

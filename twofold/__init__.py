@@ -1,1 +1,1 @@
-"""Whole numbers of two parts: added, multiplied and divided with a rest."""
+"""Whole numbers of two parts: added, multiplied, divided with a rest, and parted into numbers that part no further."""
